@@ -1,10 +1,11 @@
 """The calls: each is read from a list of whole numbers, and its answer is written into another."""
 
 from linesback.fours import Fault
-from linesback.histories import History, read_history
+from linesback.histories import History
 from linesback.lines import is_too_large, join_lines, split_lines
 from linesback.merging import merge_three
 from linesback.patches import patch_between, patch_bytes, patched, read_patch, turned_back
+from linesback.saving import history_bytes, read_history
 from linesback.ways import differing_runs
 
 # By a call's number: its name, how many whole numbers it has, what its rows are.
@@ -16,6 +17,12 @@ CALLS = {
     4: ("merge", 0, ("text", "text", "text")),
     5: ("begin", 1, ()),
     6: ("load", 1, ("history",)),
+    7: ("put", 3, ("text",)),
+    8: ("text", 2, ()),
+    9: ("parents", 2, ()),
+    10: ("base", 3, ()),
+    11: ("whence", 2, ()),
+    12: ("save", 1, ()),
 }
 
 LAST_HISTORY = 3
@@ -23,7 +30,12 @@ MOST_PATCH_BYTES = 131072
 MOST_HISTORY_BYTES = 1200000
 
 OUT_OF_RANGE = -1
+WRONG_PARENTS = -1
 TOO_LARGE = -2
+NOT_BEGUN = -3
+NO_ROOM = -3
+NO_BASE = -3
+NO_VERSION = -4
 FAULTY = -6
 
 
@@ -83,6 +95,10 @@ def row_answer(row):
     return full_answer(len(row), row, [], 0, 0)
 
 
+def list_answer(number, listed):
+    return full_answer(number, [], listed, 0, 0)
+
+
 def fault_answer(fault):
     return full_answer(FAULTY, [], [], fault.kind, fault.place)
 
@@ -92,7 +108,7 @@ def answer_differ(old, new):
     listed = []
     for run in runs:
         listed.extend(run)
-    return full_answer(len(runs), [], listed, 0, 0)
+    return list_answer(len(runs), listed)
 
 
 def answer_merge(base, ours, theirs):
@@ -118,6 +134,63 @@ def answer_by_patch(name, old, row):
     return row_answer(patch_bytes(turned_back(old, patch)))
 
 
+# In the calls a parent is a version's number and 1 more, and 0 stands for none.
+def parent_from_call(number):
+    return None if number == 0 else number - 1
+
+
+def parent_for_answer(parent):
+    return 0 if parent is None else parent + 1
+
+
+def answer_put(history, first, second, row):
+    if second > 0 and first in (0, second):
+        return number_answer(WRONG_PARENTS)
+    if max(first, second) > len(history.versions):
+        return number_answer(NO_VERSION)
+    if history.is_full():
+        return number_answer(NO_ROOM)
+    version = history.make_version(parent_from_call(first), parent_from_call(second), split_lines(row))
+    if not history.has_room_for(len(version.kept)):
+        return number_answer(NO_ROOM)
+    history.add_version(version)
+    return number_answer(len(history.versions) - 1)
+
+
+def answer_parents(version):
+    return list_answer(0, [parent_for_answer(version.first_parent), parent_for_answer(version.second_parent)])
+
+
+def answer_base(history, number, other):
+    base = history.base_of(number, other)
+    return number_answer(NO_BASE if base is None else base)
+
+
+def answer_whence(history, number):
+    origins = history.whence(number)
+    return list_answer(len(origins), origins)
+
+
+def answer_of_versions(name, history, numbers):
+    if max(numbers) >= len(history.versions):
+        return number_answer(NO_VERSION)
+    if name == "text":
+        return row_answer(join_lines(history.versions[numbers[0]].lines))
+    if name == "parents":
+        return answer_parents(history.versions[numbers[0]])
+    if name == "base":
+        return answer_base(history, numbers[0], numbers[1])
+    return answer_whence(history, numbers[0])
+
+
+def answer_by_history(call, history):
+    if call.name == "put":
+        return answer_put(history, call.numbers[1], call.numbers[2], call.rows[0])
+    if call.name == "save":
+        return row_answer(history_bytes(history))
+    return answer_of_versions(call.name, history, call.numbers[1:])
+
+
 class Shelf:
     def __init__(self):
         self.histories = {}
@@ -136,7 +209,11 @@ class Shelf:
             return number_answer(OUT_OF_RANGE)
         if call.name == "begin":
             return self.begin(number)
-        return self.load(number, call.rows[0])
+        if call.name == "load":
+            return self.load(number, call.rows[0])
+        if number not in self.histories:
+            return number_answer(NOT_BEGUN)
+        return answer_by_history(call, self.histories[number])
 
     def begin(self, number):
         self.histories[number] = History()

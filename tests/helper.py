@@ -42,6 +42,30 @@ def load(history, data):
     return [6, history] + row(data)
 
 
+def put(history, p, q, data):
+    return [7, history, p, q] + row(data)
+
+
+def text(history, v):
+    return [8, history, v]
+
+
+def parents(history, v):
+    return [9, history, v]
+
+
+def base(history, u, v):
+    return [10, history, u, v]
+
+
+def whence(history, v):
+    return [11, history, v]
+
+
+def save(history):
+    return [12, history]
+
+
 class Answer:
     """One answer, taken apart as the interface says it stands."""
 
@@ -71,6 +95,18 @@ def take_apart(answered):
     if at != len(answered):
         raise AssertionError("the last answer is cut off")
     return found
+
+
+def ask_all(*calls):
+    found = take_apart(answers(sum(calls, [])))
+    if len(found) != len(calls):
+        raise AssertionError("each call has one answer")
+    return found
+
+
+def ask_behind(calls, call):
+    """What is answered to the call that comes behind others."""
+    return ask_all(*calls, call)[-1]
 
 
 def ask(call):
@@ -244,3 +280,98 @@ def merged_model(o, a, b):
             text = marked(text + b"".join(of_b), b">" * 7)
         text += behind
     return text, clashes, first
+
+
+def patch_model(a, b):
+    runs = runs_of_way(first_way(lines_of(a), lines_of(b)))
+    taken = lines_of(b)
+    return patch_of(*[(i, d, b"".join(taken[j:j + t])) for i, d, j, t in runs])
+
+
+class HistoryModel:
+    """Versions (p, q, text), p and q as put has them; each question is answered straight from the words."""
+
+    def __init__(self, versions):
+        self.versions = list(versions)
+        self.known = {}
+
+    def puts(self, history):
+        return [put(history, *version) for version in self.versions]
+
+    def ancestors(self, v):
+        found = {v}
+        for parent in self.versions[v][:2]:
+            if parent:
+                found |= self.ancestors(parent - 1)
+        return found
+
+    def base(self, u, v):
+        return max(self.ancestors(u) & self.ancestors(v), default=-3)
+
+    def kept_from(self, parent, v):
+        """By the number of a line of v the number of the parent's line that is kept."""
+        way = first_way(lines_of(self.versions[parent][2]), lines_of(self.versions[v][2]))
+        return {j: i for i, j in kept_of_way(way).items()}
+
+    def find_whence(self, v):
+        sources = [(self.whence(p - 1), self.kept_from(p - 1, v)) for p in self.versions[v][:2] if p]
+        found = []
+        for line in range(len(lines_of(self.versions[v][2]))):
+            comes = [origins[kept[line]] for origins, kept in sources if line in kept]
+            found.append((comes + [v])[0])
+        return found
+
+    def whence(self, v):
+        if v not in self.known:
+            self.known[v] = self.find_whence(v)
+        return self.known[v]
+
+    def bytes(self):
+        told = []
+        for p, q, data in self.versions:
+            kept = patch_model(self.versions[p - 1][2], data) if p else data
+            told.append((p - 1 if p else NONE, q - 1 if q else NONE, kept))
+        return history_of(*told)
+
+    def questions(self, history):
+        """Every question that can be asked of the history."""
+        every = range(len(self.versions))
+        asked = [call(history, v) for v in every for call in (text, parents, whence)]
+        return asked + [base(history, u, v) for u in every for v in every] + [save(history)]
+
+    def replies(self):
+        """What the questions are to be answered, in their order."""
+        told = []
+        for v, (p, q, data) in enumerate(self.versions):
+            told.append((len(data), data, [], (0, 0)))
+            told.append((0, b"", [p, q], (0, 0)))
+            told.append((len(self.whence(v)), b"", self.whence(v), (0, 0)))
+        every = range(len(self.versions))
+        told += [(self.base(u, v), b"", [], (0, 0)) for u in every for v in every]
+        return told + [(len(self.bytes()), self.bytes(), [], (0, 0))]
+
+
+def changed_text(chance, data, signs):
+    """Some of the lines dropped, some others put between them."""
+    lines = [line for line in lines_of(data) if chance.randrange(5)]
+    for _ in range(chance.randrange(4)):
+        lines.insert(chance.randrange(len(lines) + 1), chance.choice(signs) + b"\n")
+    changed = b"".join(line if line.endswith(b"\n") else line + b"\n" for line in lines)
+    return changed[:-1] if chance.randrange(4) == 0 else changed
+
+
+def chance_history(seed, how_many, signs):
+    """Versions with no parent, with one and with two; of two parents some lines of each."""
+    chance = random.Random(seed)
+    versions = []
+    for number in range(how_many):
+        p = chance.randrange(number + 1) or number
+        q = chance.choice([0] + [q for q in range(1, number + 1) if q != p])
+        if number == 0 or chance.randrange(8) == 0:
+            p = q = 0
+        data = versions[p - 1][2] if p else chance_text(chance, signs, 8)
+        if q:
+            other = lines_of(versions[q - 1][2])
+            data = b"".join(other[:chance.randrange(len(other) + 1)] + lines_of(data)[chance.randrange(3):])
+        versions.append((p, q, changed_text(chance, data, signs)))
+    return HistoryModel(versions)

@@ -90,6 +90,14 @@ class FormTest(unittest.TestCase):
         for name, node in self.nodes(ast.arg):
             self.assertFalse(hasattr(builtins, node.arg), (name, node.lineno))
 
+    def test_no_local_is_called_like_a_class_or_an_import(self):
+        for name, tree in self.trees.items():
+            taken = {alias.name for node in ast.walk(tree) if isinstance(node, ast.ImportFrom) for alias in node.names}
+            taken |= {node.name for node in ast.walk(tree) if isinstance(node, ast.ClassDef)}
+            given = {node.arg for node in ast.walk(tree) if isinstance(node, ast.arg)}
+            given |= {node.id for node in ast.walk(tree) if isinstance(node, ast.Name) and isinstance(node.ctx, ast.Store)}
+            self.assertEqual(taken & given, set(), name)
+
     def test_methods(self):
         own = own_methods_of(self.trees.values())
         for name, node in self.nodes(ast.Call):

@@ -1,8 +1,8 @@
 import unittest
 
 from helper import HISTORY_HEAD, NONE, ask, ask_bytes, begin, chance_texts, four, history_of, load, patch, patch_of
-from linesback.histories import read_history
 from linesback.lines import join_lines
+from linesback.saving import read_history
 from linesback.shelf import CallReader, Shelf
 
 

@@ -1,13 +1,7 @@
 import unittest
 
-from helper import (PATCH_HEAD, apply, ask, ask_bytes, back, chance_texts, first_way, four, lines_of, patch, patch_of,
-                    runs_of_way, small_texts)
-
-
-def model_patch(a, b):
-    runs = runs_of_way(first_way(lines_of(a), lines_of(b)))
-    taken = lines_of(b)
-    return patch_of(*[(i, d, b"".join(taken[j:j + t])) for i, d, j, t in runs])
+from helper import (PATCH_HEAD, apply, ask, ask_bytes, back, chance_texts, four, patch, patch_model, patch_of,
+                    small_texts)
 
 
 class PatchTest(unittest.TestCase):
@@ -30,7 +24,7 @@ class PatchTest(unittest.TestCase):
 
     def test_a_patch_has_the_runs_by_which_texts_differ(self):
         for a, b in chance_texts(3, 200, (b"x", b"y", b"zz"), 12, 2):
-            self.assertEqual(ask_bytes(patch(a, b)), model_patch(a, b), (a, b))
+            self.assertEqual(ask_bytes(patch(a, b)), patch_model(a, b), (a, b))
 
     def test_there_and_back_again(self):
         texts = small_texts((b"x", b"y"), 3)
